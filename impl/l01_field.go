@@ -108,6 +108,9 @@ func (n fieldNumber) rootOfSquare(a int) int {
 	return min(root, p-root)
 }
 
+// inverse returns the inverse of a, which is not 0.
+func (n fieldNumber) inverse(a int) int { return n.power(a, n.prime()-2) }
+
 // inverses inverts only the product of all elements: a division for each of
 // them would cost about thirty times as much.
 func (n fieldNumber) inverses(list []int) []int {
@@ -121,7 +124,7 @@ func (n fieldNumber) inverses(list []int) []int {
 			product = n.mul(product, out[i])
 		}
 	}
-	back := n.power(product, n.prime()-2)
+	back := n.inverse(product)
 	for i := len(list) - 1; i >= 0; i-- {
 		if x := out[i]; x != 0 {
 			out[i] = n.mul(back, before[i])
