@@ -6,8 +6,8 @@ const (
 )
 
 // fieldNumber is the number of a field. Apart from known, its methods are
-// for the numbers of existing fields only, and apart from reduce and
-// inverses they take elements only, so that no product exceeds an int.
+// for the numbers of existing fields only, and apart from reduce, inverses
+// and hasAll they take elements only, so that no product exceeds an int.
 type fieldNumber int
 
 const (
@@ -47,6 +47,16 @@ func (n fieldNumber) prime() int { return fieldTable[n].prime }
 func (n fieldNumber) generator() int { return fieldTable[n].generator }
 
 func (n fieldNumber) twoPower() int { return fieldTable[n].twoPower }
+
+// hasAll reports whether all the integers of the list are elements.
+func (n fieldNumber) hasAll(list []int) bool {
+	for _, x := range list {
+		if x < 0 || x >= n.prime() {
+			return false
+		}
+	}
+	return true
+}
 
 func (n fieldNumber) reduce(x int) int { return residue(x, n.prime()) }
 
