@@ -6,8 +6,8 @@ const (
 )
 
 // fieldNumber is the number of a field. Apart from known, its methods are
-// for the numbers of existing fields only, and apart from reduce, inverses
-// and hasAll they take elements only, so that no product exceeds an int.
+// for the numbers of existing fields only, and apart from reduce, inverses,
+// has and hasAll they take elements only, so that no product exceeds an int.
 type fieldNumber int
 
 const (
@@ -48,10 +48,12 @@ func (n fieldNumber) generator() int { return fieldTable[n].generator }
 
 func (n fieldNumber) twoPower() int { return fieldTable[n].twoPower }
 
-// hasAll reports whether all the integers of the list are elements.
+// has reports whether the integer is an element.
+func (n fieldNumber) has(x int) bool { return x >= 0 && x < n.prime() }
+
 func (n fieldNumber) hasAll(list []int) bool {
 	for _, x := range list {
-		if x < 0 || x >= n.prime() {
+		if !n.has(x) {
 			return false
 		}
 	}
