@@ -69,16 +69,7 @@ func (n fieldNumber) sub(a int, b int) int { return n.reduce(a - b) }
 func (n fieldNumber) mul(a int, b int) int { return n.reduce(a * b) }
 
 // power returns a^e for e that is not negative.
-func (n fieldNumber) power(a int, e int) int {
-	result := 1
-	for ; e > 0; e /= 2 {
-		if e%2 == 1 {
-			result = n.mul(result, a)
-		}
-		a = n.mul(a, a)
-	}
-	return result
-}
+func (n fieldNumber) power(a int, e int) int { return bySquaring(1, a, e, n.mul) }
 
 // order returns the order of a, which is not 0. The order divides P - 1, so
 // it is what remains of P - 1 after every prime factor that can go is gone.
@@ -153,6 +144,27 @@ func residue(x int, m int) int {
 		r += m
 	}
 	return r
+}
+
+// nearZero returns the integer of smallest absolute value that is congruent to
+// x modulo m, for x in 0..m-1. It is unique for odd m.
+func nearZero(x int, m int) int {
+	if x > m/2 {
+		return x - m
+	}
+	return x
+}
+
+// bySquaring returns a^e for e that is not negative, where one is a^0.
+func bySquaring[T any](one T, a T, e int, times func(T, T) T) T {
+	result := one
+	for ; e > 0; e /= 2 {
+		if e%2 == 1 {
+			result = times(result, a)
+		}
+		a = times(a, a)
+	}
+	return result
 }
 
 func powerOfZero(e int) int {
